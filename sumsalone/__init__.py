@@ -1,0 +1,1 @@
+"""Sumsalone: what sums alone tell of tables, webs and tournaments."""

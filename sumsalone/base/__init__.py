@@ -1,0 +1,1 @@
+"""Words, and the things that sums are told of."""

@@ -1,0 +1,1 @@
+"""Rows of numbers, and the order in which they stand."""
