@@ -2,7 +2,12 @@
 
 IMPORTS = """
 >>> from sumsalone.base.things import Table, Tournament, Web, is_sums, is_thing
+>>> from sumsalone.rows.roads import after, arranged, fewest_units, is_arranged_alike, is_road, road, units
 >>> from sumsalone.rows.rows import Order, bar, excess, is_under, prefix_sums, sorted_row
+>>> from sumsalone.rows.turned import filled_up, is_closed, is_less, least_within, moves_needed, turned
+>>> from sumsalone.tables.making import filled_table, greatest_row, has_table, is_table_paper, made_table, table_paper
+>>> from sumsalone.tables.placing import fewest_taken, is_most_paper, most_units
+>>> from sumsalone.webs.rows import greatest_lack, has_web, is_web_paper, lack, left_after, partners, web_of, web_paper
 """
 
 STAGE_2 = """
@@ -27,4 +32,43 @@ STAGE_3 = """
 [9, [(3, 0), (2, 1)], 'rows of 4 entries, total 6']
 """
 
-STAGES = [IMPORTS, STAGE_2, STAGE_3]
+STAGE_4 = """
+>>> [arranged((5, 1, 0), (2, 2, 3)), is_arranged_alike((1, 0, 5), (2, 2, 3)), fewest_units((5, 1, 0), (2, 2, 2)), units(road((1, 0, 5), (2, 2, 2))), road((3, 1), (2, 2))]
+[(1, 0, 5), True, 3, 3, ((0, 1, 1),)]
+>>> [after((5, 1, 0), ((0, 2, 2),)), is_road((2, 0), (1, 1), ((0, 1, 1),)), is_road((2, 0), (0, 2), ((0, 1, 2),)), units(((0, 2, 2), (0, 1, 1)))]
+[(3, 1, 2), True, False, 3]
+"""
+
+STAGE_5 = """
+>>> [turned((3, 1), 4), turned((1, 1), 2, cap=2), turned((2, 0), 2, cap=2), is_closed((1, 1), 2, cap=2), is_closed((0, 2), 2, cap=2)]
+[(2, 1, 1, 0), (2, 0), (2, 0), False, True]
+>>> [moves_needed((6, 0, 0), (3, 3, 0)), least_within((6, 0, 0), 3), least_within((6, 1, 0), 99), is_less((2, 1, 0), (3, 1, 1)), filled_up((2, 1, 0), (3, 1, 1))]
+[3, (3, 2, 1), (3, 2, 2), True, (2, 2, 1)]
+"""
+
+STAGE_6 = """
+>>> [greatest_row(1, (2, 2, 1), 3), greatest_row(2, (3, 1), 2), greatest_row(9, (10 ** 20,), 2), filled_table(2, (3, 1), 2).lines]
+[(3, 2, 0), (3, 1), (9, 9), ((2, 1), (1, 0))]
+>>> [has_table(1, (3, 1), (2, 2)), has_table(2, (3, 1), (2, 2)), has_table(1, (1,) * 20, (10, 10)), has_table(9, (10 ** 20,), (10 ** 20,))]
+[False, True, True, False]
+>>> [made_table(("table", 1, (3, 1), (2, 2))), made_table(("table", 2, (3, 1), (2, 2))).line_sums, made_table(("table", 1, (3, 2, 0), (2, 2, 1))).lines, made_table(("table", 2, (1, 1), (2,))).lines]
+[None, (3, 1), ((1, 1, 1), (1, 1, 0), (0, 0, 0)), ((1,), (1,))]
+>>> [table_paper(("table", 2, (1, 1), (2,))) == ("made", Table(2, (1,), (1,))), is_table_paper(("table", 1, (3, 1), (2, 2)), ("columns", (0, 1))), is_table_paper(("table", 1, (1, 1), (1,)), ("lines", (0, 1))), is_table_paper(("table", 1, (1,), (1, 1)), ("columns", (0, 1))), is_table_paper(("table", 1, (3, 1), (2, 2)), ("lines", (0, 1)))]
+[True, True, True, True, False]
+"""
+
+STAGE_7 = """
+>>> [most_units(("table", 1, (3, 1), (2, 2))), fewest_taken(("table", 1, (3, 1), (2, 2))), most_units(("table", 2, (3, 1), (2, 2))), fewest_taken(("table", 1, (100,), (5, 0)))]
+[3, 2, 4, 103]
+>>> [is_most_paper(("table", 1, (3, 1), (2, 2)), (Table(1, (1, 1), (0, 1)), (0,))), is_most_paper(("table", 1, (3, 1), (2, 2)), (Table(1, (1, 1), (0, 0)), (0,))), is_most_paper(("table", 2, (1, 1), (2,)), (Table(2, (1,), (1,)), ()))]
+[True, False, True]
+"""
+
+STAGE_8 = """
+>>> [has_web((2, 2, 2, 2)), has_web((3, 3, 1, 1)), lack((3, 3, 1, 1), (0, 1)), greatest_lack((3, 3, 1, 1)), greatest_lack((1, 1, 1)), web_paper((1, 1, 1))]
+[True, False, 2, 2, 0, ('odd', 3)]
+>>> [is_web_paper((3, 3, 1, 1), ("bar", (0, 1))), is_web_paper((3, 3, 1, 1), ("bar", (0,))), is_web_paper((1, 1), ("made", Web(2, (0, 1)))), partners((1, 2, 2, 1), 1), left_after((1, 2, 2, 1), 1), web_of((1, 2, 2, 1)).ties]
+[True, False, True, (0, 2), (0, 0, 1, 1), ((0, 1), (1, 2), (2, 3))]
+"""
+
+STAGES = [IMPORTS, STAGE_2, STAGE_3, STAGE_4, STAGE_5, STAGE_6, STAGE_7, STAGE_8]

@@ -6,6 +6,7 @@ from sumsalone.base import things
 from sumsalone.base.things import Table, Tournament, Web, is_sums, is_thing, sums_of
 from sumsalone.errors import InvalidOperation, InvalidSums, InvalidTable, InvalidTournament, InvalidWeb
 from tests.kinds import EVERY, FORTY, NO_INTEGERS, NO_SUMS, NO_TUPLES, THIRTY, Case
+from tests.plain import all_webs
 
 GRID = Table(1, (1, 1, 0), (1, 0, 1))
 PATH = Web(4, (0, 1), (1, 2), (2, 3))
@@ -73,7 +74,7 @@ class Tables(Case):
             self.fails_by_number(GRID.cell, wrong, wrong, 3)
             self.fails_by_number(GRID.cell, wrong, 0, wrong)
         self.fails_by_number(GRID.cell, 2, 2, 0)
-        self.assertEqual(GRID.cell(0, 2), 0)
+        self.assertEqual((GRID.cell(0, 2), Table(3, (0, 1, 2)).cell(0, 1), Table(3, (1,), (2,)).cell(1, 0)), (0, 1, 2))
 
     def test_with_cell(self):
         table = Table(3, (1, 2), (0, 3))
@@ -167,6 +168,9 @@ class Webs(Case):
 
     def test_opposite(self):
         self.assertEqual(PATH.opposite(), Web(4, (0, 2), (0, 3), (1, 3)))
+        pairs = list(combinations(range(4), 2))
+        for ties in all_webs(4):
+            self.assertEqual(Web.of(4, ties).opposite().ties, tuple(pair for pair in pairs if pair not in ties))
         self.assertEqual(Web(1).opposite(), Web(1))
 
     def test_words(self):

@@ -1,0 +1,1 @@
+"""Tables by their sums."""

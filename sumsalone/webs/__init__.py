@@ -1,0 +1,1 @@
+"""Webs by their rows."""
