@@ -7,7 +7,14 @@ IMPORTS = """
 >>> from sumsalone.rows.turned import filled_up, is_closed, is_less, least_within, moves_needed, turned
 >>> from sumsalone.tables.making import filled_table, greatest_row, has_table, is_table_paper, made_table, table_paper
 >>> from sumsalone.tables.placing import fewest_taken, is_most_paper, most_units
+>>> from sumsalone.webs.near import fewest_away, is_nearest, nearest, table_of_web, web_from
+>>> from sumsalone.webs.nested import is_nested_row, is_over, nested_rows, over, web_of_word, word_of
 >>> from sumsalone.webs.rows import greatest_lack, has_web, is_web_paper, lack, left_after, partners, web_of, web_paper
+>>> from sumsalone.wins.halves import halved, is_half_table, table_of_tournament
+>>> from sumsalone.wins.parts import count_rings, is_ring_through, is_row_through, is_strong, parts_in, rings_in
+>>> from sumsalone.wins.parts import strong_parts
+>>> from sumsalone.wins.scores import greatest_deficit, has_tournament, is_score_paper, nearest_scores, score_paper
+>>> from sumsalone.wins.scores import tournament_of
 """
 
 STAGE_2 = """
@@ -71,4 +78,42 @@ STAGE_8 = """
 [True, False, True, (0, 2), (0, 0, 1, 1), ((0, 1), (1, 2), (2, 3))]
 """
 
-STAGES = [IMPORTS, STAGE_2, STAGE_3, STAGE_4, STAGE_5, STAGE_6, STAGE_7, STAGE_8]
+STAGE_9 = """
+>>> [web_of_word((0, 0, 1, 1)).degrees, word_of(Web(3, (0, 1), (1, 2))), word_of(Web(4, (0, 1), (2, 3))), is_nested_row((1, 3, 2, 2)), is_nested_row((2, 2, 2, 2))]
+[(2, 2, 3, 3), (0, 0, 1), None, True, False]
+>>> [nested_rows(4, 8), nested_rows(4, 6), nested_rows(3, 3), over((2, 2, 2, 2)), over((3, 3, 1, 1)), is_over((2, 2, 1, 1), (3, 1, 1, 1)), is_over((2, 2, 1, 1), (2, 2, 2, 0))]
+[((3, 2, 2, 1),), ((2, 2, 2, 0), (3, 1, 1, 1)), (), (3, 2, 2, 1), None, True, True]
+"""
+
+STAGE_10 = """
+>>> [fewest_away((3, 3, 1, 1)), fewest_away((5, 2, 2, 2)), fewest_away((1, 1, 1)), is_nearest((5, 2, 2, 2), (3, 2, 2, 1)), is_nearest((5, 2, 2, 2), (2, 2, 2, 2)), nearest((0, 0))]
+[2, 3, 1, True, True, (0, 0)]
+>>> ring = Table(1, (0, 1, 0, 0), (0, 0, 1, 0), (0, 0, 0, 1), (1, 0, 0, 0))
+>>> [table_of_web(Web(2, (0, 1))) == Table(1, (0, 1), (1, 0)), web_from(ring).degrees]
+[True, (1, 1, 1, 1)]
+"""
+
+STAGE_11 = """
+>>> [has_tournament((1, 1, 1)), has_tournament((0, 0, 3)), greatest_deficit((0, 0, 3)), greatest_deficit((3, 3, 0, 0)), score_paper((0, 0, 3)), is_score_paper((3, 3, 0, 0), ("bar", (2, 3)))]
+[True, False, 1, 1, ('bar', (0, 1)), True]
+>>> [tournament_of((2, 1, 0)).beaten, sum(nearest_scores((0, 0, 3))), has_tournament(nearest_scores((0, 0, 3))), is_score_paper((1, 1, 1), ("made", Tournament((1,), (2,), (0,))))]
+[((1, 2), (2,), ()), 3, True, True]
+"""
+
+STAGE_12 = """
+>>> [strong_parts((0, 1, 2)), strong_parts((1, 1, 1, 3)), is_strong((1, 1, 1)), count_rings((1, 1, 1, 3)), count_rings((2, 2, 2, 2, 2))]
+[((2,), (1,), (0,)), ((3,), (0, 1, 2)), True, 1, 5]
+>>> [parts_in(RING), rings_in(RING), is_ring_through(RING, (1, 2, 0)), is_row_through(RING, (0, 2, 1)), is_row_through(Tournament((1, 2), (2,), ()), (0, 1, 2))]
+[((0, 1, 2),), ((0, 1, 2),), True, False, True]
+"""
+
+STAGE_13 = """
+>>> [table_of_tournament(RING).lines, is_half_table(Table(1, (0, 1), (1, 0))), is_half_table(Table(1, (0, 1, 1), (1, 0, 0), (0, 0, 0)))]
+[((0, 1, 0), (0, 0, 1), (1, 0, 0)), False, False]
+>>> TWICE = Table(1, (0, 1, 0, 1), (1, 0, 1, 0), (0, 0, 0, 1), (0, 0, 1, 0))
+>>> [is_half_table(TWICE), halved(TWICE).scores, halved(TWICE).beats(0, 3), halved(TWICE).beats(1, 2), halved(table_of_tournament(RING)) == RING]
+[True, (2, 2, 1, 1), True, True, True]
+"""
+
+STAGES = [IMPORTS, STAGE_2, STAGE_3, STAGE_4, STAGE_5, STAGE_6, STAGE_7, STAGE_8, STAGE_9, STAGE_10, STAGE_11, STAGE_12,
+          STAGE_13]

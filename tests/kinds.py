@@ -34,6 +34,10 @@ OBJECTS = [Table(1, (0, 1)), Table(2, (2,)), Web(1), Web(2, (0, 1)), Web(3), Tou
 EVERY = [None] + INTEGERS + BOOLEANS + STRINGS + TUPLES + LISTS + DICTS + DEEP + OBJECTS
 
 NO_INTEGERS = [value for value in EVERY if type(value) is not int]
+NO_TABLES = [value for value in EVERY if not isinstance(value, Table)]
+NO_WEBS = [value for value in EVERY if not isinstance(value, Web)]
+NO_TOURNAMENTS = [value for value in EVERY if not isinstance(value, Tournament)]
+NO_THINGS = [value for value in NO_TABLES if not isinstance(value, (Web, Tournament))]
 NO_TUPLES = [value for value in EVERY if not isinstance(value, tuple)]
 NO_ROWS = NO_TUPLES + [(), (-1,), (1, -1), (True,), (0, False), (None,), ("a",), (1, "1"), (THIRTY + 1,), (0, FORTY),
                        ((1,),), ([1],), ({},), (0,) * 65, (Web(1),), (1, None), (1, 1, [])]

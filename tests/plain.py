@@ -1,6 +1,6 @@
 """Short ways to the same answers, that use nothing of the package."""
 
-from itertools import combinations, product
+from itertools import combinations, permutations, product
 
 
 def sorted_rows(length, total):
@@ -132,3 +132,76 @@ def lack_of(degrees, places):
     many = len(places)
     others = [degrees[place] for place in range(len(degrees)) if place not in places]
     return sum(degrees[place] for place in places) - many * (many - 1) - sum(min(many, entry) for entry in others)
+
+
+def falling(row):
+    return tuple(sorted(row, reverse=True))
+
+
+def is_possible_web(degrees):
+    """Whether some web has these degrees, by taking a greatest entry away again and again."""
+    left = falling(degrees)
+    while left:
+        many, others = left[0], left[1:]
+        if many > len(others) or many and others[many - 1] == 0:
+            return False
+        left = falling([entry - (place < many) for place, entry in enumerate(others)])
+    return True
+
+
+def all_words(many):
+    return [(0,) + letters for letters in product((0, 1), repeat=many - 1)]
+
+
+def ties_of_word(word):
+    return tuple(sorted((ahead, place) for place in range(len(word)) if word[place] for ahead in range(place)))
+
+
+def words_of(places, ties):
+    """All words whose web is this one with its places in some order, by trying all orders."""
+    tied = {frozenset(tie) for tie in ties}
+    found = set()
+    for order in permutations(range(places)):
+        rows = [[frozenset((order[at], other)) in tied for other in order[:at]] for at in range(places)]
+        if all(all(row) or not any(row) for row in rows):
+            found.add(tuple(int(bool(row) and all(row)) for row in rows))
+    return found
+
+
+def all_tournaments(many):
+    """The tuples of beaten players of all tournaments of so many players."""
+    pairs = list(combinations(range(many), 2))
+    for wins in product((False, True), repeat=len(pairs)):
+        beaten = [[] for _ in range(many)]
+        for (i, j), won in zip(pairs, wins):
+            beaten[i if won else j].append(j if won else i)
+        yield tuple([tuple(sorted(row)) for row in beaten])
+
+
+def deficit_of(scores, players):
+    return len(players) * (len(players) - 1) // 2 - sum(scores[player] for player in players)
+
+
+def reach_of(beaten, player):
+    """All players to whom this one leads, with itself."""
+    reached = {player}
+    waiting = [player]
+    for one in waiting:
+        for other in beaten[one]:
+            if other not in reached:
+                reached.add(other)
+                waiting.append(other)
+    return reached
+
+
+def parts_of_tournament(beaten):
+    """The parts, the one that beats all others first."""
+    reached = [reach_of(beaten, player) for player in range(len(beaten))]
+    parts = {tuple(j for j in range(len(beaten)) if j in reached[i] and i in reached[j]) for i in range(len(beaten))}
+    return tuple(sorted(parts, key=lambda part: -len(reached[part[0]])))
+
+
+def rings_of_three(beaten):
+    triples = permutations(range(len(beaten)), 3)
+    return tuple(ring for ring in triples if ring[0] == min(ring)
+                 and all(ring[k] in beaten[ring[k - 1]] for k in range(3)))

@@ -1,13 +1,13 @@
 """Tables by their sums (T.1), (T.2), (T.4)."""
 
 from itertools import permutations, product
-from random import Random
 
 from sumsalone.base.things import Table, Web
 from sumsalone.errors import InvalidNumber, InvalidOperation, InvalidSums
 from sumsalone.tables.making import (filled_table, greatest_row, has_table, is_table_paper, made_table, table_paper)
 from tests.kinds import EVERY, FORTY, NO_INTEGERS, NO_ROWS, NO_SUMS, NO_TUPLES, THIRTY, Case
 from tests.plain import all_tables, held, rows_up_to, subsets, sums_of_lines
+from tests.some import some_tables
 
 # Caps, numbers of lines, numbers of columns: all tables of these sizes are looked at.
 SIZES = [(1, 1, 1), (3, 1, 2), (2, 3, 1), (1, 2, 3), (1, 3, 3), (2, 2, 2), (3, 2, 2), (1, 4, 2), (2, 2, 3), (1, 2, 4)]
@@ -23,15 +23,6 @@ def barring(cap, lines, columns):
     """All ascending tuples of lines that bar these sums."""
     return [some for some in subsets(len(lines))
             if sum(lines[line] for line in some) > held(cap, len(some), columns)]
-
-
-def some_tables(many):
-    """Tables of all sizes up to twelve lines and columns with caps up to 9, always the same ones."""
-    random = Random(7)
-    for _ in range(many):
-        cap, lines, columns = random.randint(1, 9), random.randint(1, 12), random.randint(1, 12)
-        bias = random.choice(((0, cap), (0, cap // 2), ((cap + 1) // 2, cap)))
-        yield Table.of(cap, tuple(tuple(random.randint(*bias) for _ in range(columns)) for _ in range(lines)))
 
 
 class Greatest(Case):

@@ -8,7 +8,8 @@ from sumsalone.tables.making import has_table, made_table
 from sumsalone.tables.placing import fewest_taken, is_most_paper, most_paper, most_units, nearest_sums
 from tests.kinds import EVERY, FORTY, THIRTY, Case
 from tests.plain import all_tables, held, rows_up_to, subsets, sums_of_lines
-from tests.test_making import WRONG_SUMS, some_tables
+from tests.some import some_tables
+from tests.test_making import WRONG_SUMS
 
 
 def shown(cap, lines, columns, some):

@@ -6,20 +6,11 @@ from sumsalone.base import things
 from sumsalone.base.things import Table, Tournament, Web, is_sums, is_thing, sums_of
 from sumsalone.errors import InvalidOperation, InvalidSums, InvalidTable, InvalidTournament, InvalidWeb
 from tests.kinds import EVERY, FORTY, NO_INTEGERS, NO_SUMS, NO_TUPLES, THIRTY, Case
-from tests.plain import all_webs
+from tests.plain import all_tournaments, all_webs
 
 GRID = Table(1, (1, 1, 0), (1, 0, 1))
 PATH = Web(4, (0, 1), (1, 2), (2, 3))
 RING = Tournament((1,), (2,), (0,))
-
-
-def all_tournaments(many):
-    pairs = list(combinations(range(many), 2))
-    for wins in product((False, True), repeat=len(pairs)):
-        beaten = [[] for _ in range(many)]
-        for (i, j), won in zip(pairs, wins):
-            beaten[i if won else j].append(j if won else i)
-        yield tuple([tuple(sorted(row)) for row in beaten])
 
 
 class Constants(Case):

@@ -1,13 +1,13 @@
 """Rows of webs (W.1), (W.3)."""
 
-from itertools import combinations, product
-from random import Random
+from itertools import product
 
 from sumsalone.base.things import Table, Tournament, Web
 from sumsalone.errors import InvalidNumber, InvalidOperation, InvalidSums, TooMany
 from sumsalone.webs.rows import (greatest_lack, has_web, is_web_paper, lack, left_after, partners, web_of, web_paper)
 from tests.kinds import EVERY, FORTY, NO_INTEGERS, NO_ROWS, THIRTY, Case
 from tests.plain import all_webs, degrees_of, lack_of, rows_up_to, subsets
+from tests.some import some_webs
 
 LONG = [(1,) * 18, (17,) * 18, (0,) * 64, (63,) * 64, (63,) + (1,) * 63, (2,) * 63, (33,) * 40]
 
@@ -25,13 +25,6 @@ def web_by_numbers(degrees):
             left[other] -= 1
         left[place] = 0
     return tuple(sorted(ties))
-
-
-def some_webs(places, many):
-    random = Random(places)
-    for _ in range(many):
-        limit = random.random()
-        yield Web(places, *[pair for pair in combinations(range(places), 2) if random.random() < limit])
 
 
 class Lacks(Case):

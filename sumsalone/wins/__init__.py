@@ -1,0 +1,1 @@
+"""Tournaments: what scores alone tell."""
