@@ -2,9 +2,14 @@
 
 IMPORTS = """
 >>> from sumsalone.base.things import Table, Tournament, Web, is_sums, is_thing
+>>> from sumsalone.both.parted import has_part, parted_paper, rest_of
+>>> from sumsalone.roads.carried import carried, count_moves, is_carrying, is_highest, moved, raised, row_of
+>>> from sumsalone.roads.exchanges import count_exchanges, distance, each_exchange, exchange_road, is_split, nearer
+>>> from sumsalone.roads.exchanges import split
 >>> from sumsalone.rows.roads import after, arranged, fewest_units, is_arranged_alike, is_road, road, units
 >>> from sumsalone.rows.rows import Order, bar, excess, is_under, prefix_sums, sorted_row
 >>> from sumsalone.rows.turned import filled_up, is_closed, is_less, least_within, moves_needed, turned
+>>> from sumsalone.sure.forced import is_alone, parts_of, state_of, states
 >>> from sumsalone.tables.making import filled_table, greatest_row, has_table, is_table_paper, made_table, table_paper
 >>> from sumsalone.tables.placing import fewest_taken, is_most_paper, most_units
 >>> from sumsalone.webs.near import fewest_away, is_nearest, nearest, table_of_web, web_from
@@ -115,5 +120,35 @@ STAGE_13 = """
 [True, (2, 2, 1, 1), True, True, True]
 """
 
+STAGE_14 = """
+>>> STAIR = Tournament((1, 2), (2,), ())
+>>> [row_of(GRID), row_of(PATH), count_moves(PATH, 1, 0), count_moves(PATH, 0, 1), moved(PATH, 1, 0).ties, count_moves(STAIR, 0, 2), count_moves(STAIR, 2, 0), count_moves(Table(2, (2, 1), (0, 1)), 0, 1)]
+[(2, 2), (1, 2, 2, 1), 1, 0, ((0, 1), (0, 2), (2, 3)), 2, 0, 2]
+>>> [len(carried(STAIR, (1, 1, 1))), is_carrying(STAIR, (1, 1, 1), (STAIR, RING)), is_carrying(STAIR, (2, 1, 0), (STAIR,)), [is_highest(one) for one in (STAIR, RING, PATH, Web(3, (0, 1), (0, 2)), Table(2, (2, 1), (0, 1)), GRID)], len(raised(RING))]
+[2, True, True, [True, False, False, True, False, False], 2]
+"""
+
+STAGE_15 = """
+>>> OTHER = Web(4, (0, 2), (1, 2), (1, 3))
+>>> [distance(PATH, OTHER), count_exchanges(PATH), list(each_exchange(PATH)) == [OTHER], is_split(PATH, OTHER, ((0, 1, 3, 2),)), exchange_road(PATH, OTHER, split(PATH, OTHER)) == (PATH, OTHER)]
+[4, 1, True, True, True]
+>>> TURNED = Table(1, (1, 0, 1), (1, 1, 0))
+>>> [distance(GRID, TURNED), [one.lines for one in each_exchange(GRID)], is_split(GRID, TURNED, ((0, 1, 1, 2),)), nearer(GRID, TURNED)[0] in ("first", "second"), split(GRID, GRID), exchange_road(GRID, GRID, ()) == (GRID,)]
+[4, [((1, 0, 1), (1, 1, 0))], True, True, (), True]
+>>> [distance(RING, RING.opposite()), count_exchanges(RING), is_split(RING, RING.opposite(), ((1, 2, 0),)), count_exchanges(STAIR), count_exchanges(Table(2, (1, 1), (1, 1)))]
+[3, 1, True, 0, 2]
+"""
+
+STAGE_16 = """
+>>> [state_of(("web", (2, 2, 1, 1)), (0, 1)), states(("tournament", (0, 1, 2))), is_alone(("table", 1, (2, 1), (2, 1))), parts_of(("tournament", (2, 0, 2, 2)))]
+['full', {(0, 1): 'empty', (0, 2): 'empty', (1, 2): 'empty'}, True, ((0, 2, 3), (1,))]
+"""
+
+STAGE_17 = """
+>>> HOOK, ONES = ("table", 1, (2, 1), (2, 1)), ("table", 1, (1, 1), (1, 1))
+>>> [parted_paper(HOOK, ONES) == ("made", Table(1, (1, 1), (1, 0)), Table(1, (0, 1), (1, 0))), rest_of(HOOK, ONES), has_part(("web", (2, 2, 2, 2)), ("web", (1, 1, 1, 1))), has_part(("web", (3, 1, 1, 1)), ("web", (1, 1, 1, 1)))]
+[True, ('table', 1, (1, 0), (1, 0)), True, False]
+"""
+
 STAGES = [IMPORTS, STAGE_2, STAGE_3, STAGE_4, STAGE_5, STAGE_6, STAGE_7, STAGE_8, STAGE_9, STAGE_10, STAGE_11, STAGE_12,
-          STAGE_13]
+          STAGE_13, STAGE_14, STAGE_15, STAGE_16, STAGE_17]

@@ -34,3 +34,10 @@ def some_tournaments(players, many):
             winner, loser = (i, j) if random.random() < limit else (j, i)
             beaten[names[winner]].append(names[loser])
         yield Tournament.of(tuple(tuple(sorted(row)) for row in beaten))
+
+
+def thing_told(told):
+    """The thing that is told as in `tests/plain.py`."""
+    if told[0] == "table":
+        return Table.of(told[1], told[2])
+    return Web.of(*told[1:]) if told[0] == "web" else Tournament.of(told[1])

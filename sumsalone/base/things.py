@@ -141,12 +141,12 @@ class Web:
     def are_tied(self, one, other):
         """Whether these two places are tied."""
         _check_two(one, other, self._places)
-        return _pair(one, other) in self._ties
+        return ordered(one, other) in self._ties
 
     def with_change(self, one, other):
         """The web in which these two places are tied if they were not, and not if they were."""
         _check_two_different(one, other, self._places)
-        changed = _pair(one, other)
+        changed = ordered(one, other)
         ties = [tie for tie in self._ties if tie != changed]
         if len(ties) == len(self._ties):
             ties.append(changed)
@@ -233,6 +233,16 @@ class Tournament:
         return f"tournament of {len(self._beaten)} players"
 
 
+def ordered(one, other):
+    """The pair of both, the lesser one ahead."""
+    return (min(one, other), max(one, other))
+
+
+def is_any_thing(value):
+    """Whether the value is a table, a web or a tournament."""
+    return isinstance(value, (Table, Web, Tournament))
+
+
 def is_sums(value):
     """Whether the value is a tuple of sums of a table, a web or a tournament."""
     if not isinstance(value, tuple) or len(value) == 0:
@@ -246,12 +256,12 @@ def is_thing(sums, value):
     """Whether the value is a thing with these sums."""
     if not is_sums(sums):
         raise InvalidSums("no sums of a table, a web or a tournament")
-    return isinstance(value, (Table, Web, Tournament)) and value.sums == sums
+    return is_any_thing(value) and value.sums == sums
 
 
 def sums_of(thing):
     """The sums of a thing."""
-    if not isinstance(thing, (Table, Web, Tournament)):
+    if not is_any_thing(thing):
         raise InvalidOperation("no table, web or tournament")
     return thing.sums
 
@@ -307,8 +317,3 @@ def _check_two_different(one, other, many):
     _check_two(one, other, many)
     if one == other:
         raise InvalidOperation("two different places or players are asked for")
-
-
-def _pair(one, other):
-    """The pair of both, the lesser one ahead."""
-    return (min(one, other), max(one, other))

@@ -1,0 +1,1 @@
+"""Things that have a part with other sums."""

@@ -1,0 +1,1 @@
+"""Things carried along by moves, and joined by exchanges."""

@@ -1,0 +1,1 @@
+"""What is the same in all things with some sums."""
