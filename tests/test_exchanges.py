@@ -202,6 +202,9 @@ class Nearer(Case):
                       ("First", TURNED), (1, TURNED), (TURNED, "first"), ("first", None), ("", TURNED), ("second", None),
                       ("first", (TURNED,)), ("first", PATH), (None, TURNED), (("first",), TURNED)):
             self.assertIs(is_nearer(GRID, TURNED, value), False)
+        for side in ("Second", "third", "", None, 2, ("second",), GRID):
+            self.assertIs(is_nearer(GRID, TURNED, (side, GRID)), False)
+            self.assertIs(is_nearer(GRID, TURNED, (side, TURNED)), False)
         for one, other in ((GRID, TURNED), (PATH, PATH), (RING, RING.opposite()), (Web(1), Web(1))):
             self.judges_every_kind(is_nearer, one, other)
         for side in ("first", "second"):

@@ -272,6 +272,13 @@ class Papers(Case):
                       ("empty", "range"), ("range", "full"), "range", "full", ("full", ("range",)), (True, "range"),
                       ("full", ("lines", (0,))), ("full", "range", "range")):
             self.assertIs(is_forced_paper(full, (0, 0), value), False)
+        for sums, word in ((full, "full"), (("web", (0, 0)), "empty"), (("tournament", (0, 1)), "empty")):
+            place = (0, 0) if sums == full else (0, 1)
+            self.assertIs(is_forced_paper(sums, place, (word, "range")), True)
+            for other in ("free", "Full", "Empty", "", None, 0, (word,), [word], "full" if word == "empty" else "empty"):
+                self.assertIs(is_forced_paper(sums, place, (other, "range")), False)
+            for value in ((word, "range", 1), (word, "range", 1, 1), (word, "range", "range", "range")):
+                self.assertIs(is_forced_paper(sums, place, value), False)
         for sums in (free, full, ("web", (1, 1)), ("tournament", (1, 0)), ("web", (2, 2, 1, 1))):
             self.judges_every_kind(is_forced_paper, sums, (0, 1))
             for value in EVERY:

@@ -186,3 +186,32 @@ class Code(unittest.TestCase):
                 allowed = {"sorted": ("key", "reverse"), "min": ("key", "default"), "max": ("key", "default"),
                            "sum": ("start",), "enumerate": ("start",), "zip": ("strict",)}.get(name, ())
                 self.assertTrue({part.arg for part in node.keywords} <= set(allowed), (path, node.lineno))
+
+    def test_iterated_at_once(self):
+        takers = ("list", "tuple", "dict", "sorted", "sum", "any", "all", "enumerate", "zip", "min", "max", "reversed")
+        for path, tree in TREES.items():
+            spots = [id(node.iter) for node in ast.walk(tree) if isinstance(node, (ast.For, ast.comprehension))]
+            for node in ast.walk(tree):
+                if isinstance(node, ast.Call) and isinstance(node.func, ast.Name) and node.func.id in takers:
+                    spots.extend(id(part) for part in node.args)
+            for node in ast.walk(tree):
+                if not isinstance(node, ast.Call):
+                    continue
+                name = getattr(node.func, "id", None) or "." + getattr(node.func, "attr", "")
+                if name in ("range", "zip", "enumerate", "reversed", ".items", ".keys", ".values"):
+                    self.assertIn(id(node), spots, (path, node.lineno))
+
+    def test_generators(self):
+        made = [(path, node) for path, node in nodes(ast.FunctionDef)
+                if any(isinstance(part, ast.Yield) for part in ast.walk(node))]
+        names = [node.name for _, node in nodes(ast.FunctionDef)]
+        for path, node in made:
+            self.assertEqual(names.count(node.name), 1, (path, node.name))
+            self.assertNotIn(node.name, METHODS, path)
+
+    def test_recursion_and_nesting(self):
+        for path, node in nodes(ast.FunctionDef):
+            inside = [part for part in ast.walk(node) if part is not node]
+            self.assertFalse(any(isinstance(part, (ast.FunctionDef, ast.Lambda)) for part in inside), (path, node.name))
+            calls = [part.func.id for part in inside if isinstance(part, ast.Call) and isinstance(part.func, ast.Name)]
+            self.assertNotIn(node.name, calls, path)

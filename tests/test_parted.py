@@ -262,14 +262,15 @@ class Papers(Case):
         barred = ("table", 1, (2, 2), (3, 1))
         for value in (("whole", ("columns", (0,))), ("rest", ("columns", (0,)))):
             self.assertIs(is_parted_paper(barred, ("table", 1, (0, 0), (0, 0)), value), True)
-        for value in (("whole", ["columns", (0,)]), ("whole", ("columns", [0])), ("whole", ("columns", (0,)), 1),
+        for value in (("whole", ("columns", (0,)), 1, 1), ("whole", ["columns", (0,)]), ("whole", ("columns", [0])), ("whole", ("columns", (0,)), 1),
                       ("Whole", ("columns", (0,))), ("whole", ("lines", (0,))), ("whole",), ("columns", (0,)),
                       ("rest", "range"), (("columns", (0,)), "whole")):
             self.assertIs(is_parted_paper(barred, ("table", 1, (0, 0), (0, 0)), value), False)
         ranged = ("table", 1, (1, 2), (2, 1))
         self.assertIs(is_parted_paper(HOOK, ranged, ("rest", "range")), True)
         for value in (("rest", "Range"), ("rest", ""), ("rest", None), ["rest", "range"], ("rest", "range", 1), "range",
-                      ("whole", "range"), ("rest", ("range",)), ("rest", ("lines", (1,)))):
+                      ("whole", "range"), ("rest", ("range",)), ("rest", ("lines", (1,))),
+                      ("rest", "range", 1, 1), ("Rest", "range"), ("", "range"), (None, "range"), ("made", "range")):
             self.assertIs(is_parted_paper(HOOK, ranged, value), False)
         for sums, share in ((HOOK, ONES), (HOOK, ranged), (barred, ONES), (("web", (1, 1)), ("web", (1, 1)))):
             self.judges_every_kind(is_parted_paper, sums, share)

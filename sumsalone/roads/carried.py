@@ -4,8 +4,8 @@ from sumsalone.base.checks import check_within, is_whole
 from sumsalone.base.ends import gap, numbers_of
 from sumsalone.base.things import Table, Web, is_any_thing, sums_of
 from sumsalone.errors import InvalidOperation, InvalidSums
-from sumsalone.rows.roads import is_arranged_alike, road
-from sumsalone.rows.rows import descending, is_row, is_under, places_by_entry
+from sumsalone.rows.roads import road
+from sumsalone.rows.rows import descending, is_row, places_by_entry
 from sumsalone.tables.making import greatest_row
 from sumsalone.webs.nested import is_nested_row
 from sumsalone.wins.parts import count_rings
@@ -44,11 +44,11 @@ def is_move(thing, i, j, value):
 def carried(thing, row):
     """The things on a way down by moves to one with this row, as few as possible."""
     _check_row_like(thing, row)
-    own = row_of(thing)
-    if not is_row(row) or not is_arranged_alike(own, row) or not is_under(row, own):
-        raise InvalidOperation("the row is not arranged alike, and under that of the thing")
+    if not is_row(row):
+        raise InvalidOperation("the row has too great entries to be under that of the thing")
     things = [thing]
-    for giver, taker, many in road(own, row):
+    # What is not arranged alike, or not under the row of the thing, has no road.
+    for giver, taker, many in road(row_of(thing), row):
         for _ in range(many):
             things.append(moved(things[-1], giver, taker))
     return tuple(things)

@@ -151,17 +151,15 @@ def _differences(here, there):
 
 def _nearer_way(sums, here, there):
     """("first", way) or ("second", way): the way of an exchange of the one that is nearer to the other one."""
-    if is_round(sums):
-        return _nearer_ring(here, there)
-    found = _nearer_swap(here, there, most_between(sums))
-    if found is None:
-        side, way = _nearer_swap(there, here, most_between(sums))
-        found = ("second" if side == "first" else "first", way)
-    return found
+    return _nearer_ring(here, there) if is_round(sums) else _nearer_swap(here, there, most_between(sums))
 
 
 def _nearer_swap(here, there, most):
-    """A way of four ends of whose units three differ, the second of them in favour of there; or None."""
+    """A way of four ends, of whose units three differ: more here, fewer here, more here.
+
+    It can be followed here or there, but for two cases: the first and the last end are one, or as many units as there
+    can be stand between these two here, and none there. On the shortest closed way this is not so everywhere.
+    """
     more, fewer = _beside(here, there), _beside(there, here)
     for a in more:
         for b in more[a]:
