@@ -1,8 +1,17 @@
 """The examples of the document, stage by stage, in its order; later ones use names of earlier ones."""
 
 IMPORTS = """
+>>> from sumsalone.across.bridges import opposite_sums, table_of_sides, tournament_of_table, web_of_sides, web_of_table
+>>> from sumsalone.across.even import back_step, even_step, steps_between
 >>> from sumsalone.base.things import Table, Tournament, Web, is_sums, is_thing
+>>> from sumsalone.both.apart import first_cover, lessened, most_apart
+>>> from sumsalone.both.joined import can_be_firm, can_join, firm_paper, is_firm, is_joined, joined_paper
 >>> from sumsalone.both.parted import has_part, parted_paper, rest_of
+>>> from sumsalone.count.counts import count_things, each_thing, shape_counts
+>>> from sumsalone.fill.fillings import count_fillings, each_filling, entry_counts, is_filling, is_shape, shape_of
+>>> from sumsalone.fill.fillings import turned_shape
+>>> from sumsalone.fill.insertion import Press, fillings_of, table_of
+>>> from sumsalone.house.bench import Bench
 >>> from sumsalone.roads.carried import carried, count_moves, is_carrying, is_highest, moved, raised, row_of
 >>> from sumsalone.roads.exchanges import count_exchanges, distance, each_exchange, exchange_road, is_split, nearer
 >>> from sumsalone.roads.exchanges import split
@@ -12,6 +21,8 @@ IMPORTS = """
 >>> from sumsalone.sure.forced import is_alone, parts_of, state_of, states
 >>> from sumsalone.tables.making import filled_table, greatest_row, has_table, is_table_paper, made_table, table_paper
 >>> from sumsalone.tables.placing import fewest_taken, is_most_paper, most_units
+>>> from sumsalone.text.shell import Shell
+>>> from sumsalone.text.texts import read, write
 >>> from sumsalone.webs.near import fewest_away, is_nearest, nearest, table_of_web, web_from
 >>> from sumsalone.webs.nested import is_nested_row, is_over, nested_rows, over, web_of_word, word_of
 >>> from sumsalone.webs.rows import greatest_lack, has_web, is_web_paper, lack, left_after, partners, web_of, web_paper
@@ -150,5 +161,77 @@ STAGE_17 = """
 [True, ('table', 1, (1, 0), (1, 0)), True, False]
 """
 
-STAGES = [IMPORTS, STAGE_2, STAGE_3, STAGE_4, STAGE_5, STAGE_6, STAGE_7, STAGE_8, STAGE_9, STAGE_10, STAGE_11, STAGE_12,
-          STAGE_13, STAGE_14, STAGE_15, STAGE_16, STAGE_17]
+STAGE_18 = """
+>>> CROSS = ("table", 1, (3, 1, 1), (3, 1, 1))
+>>> [most_apart(CROSS), first_cover(CROSS), lessened(CROSS, 2), most_apart(("web", (2, 2, 2, 2, 2, 2))), most_apart(("web", (3, 1, 1, 1))), most_apart(("table", 2, (4,), (2, 2)))]
+[2, (1, 1), ('table', 1, (2, 0, 1), (2, 0, 1)), 3, 1, 1]
+"""
+
+STAGE_19 = """
+>>> PAIRS, RINGS = ("web", (1, 1, 1, 1)), ("web", (2, 2, 2, 2, 2, 2))
+>>> [can_join(PAIRS), joined_paper(PAIRS), can_join(RINGS), can_be_firm(RINGS), can_join(("table", 1, (1, 1), (1, 1))), can_be_firm(("table", 2, (2, 2), (2, 2)))]
+[False, ('few', 4), True, True, False, True]
+>>> [is_joined(Web(6, (0, 1), (0, 2), (1, 2), (3, 4), (3, 5), (4, 5))), is_firm(Table(2, (2,))), is_firm(Table(1, (1, 1), (1, 1))), firm_paper(("web", (2, 2, 1, 1)))[0]]
+[False, True, True, 'low']
+"""
+
+STAGE_20 = """
+>>> [turned_shape((3, 1)), is_shape((1, 2)), is_shape(()), is_filling(((0, 0), (1,))), is_filling(((0, 1), (0,))), shape_of(((0, 1), (2,))), entry_counts(((0, 0), (1,)), 3)]
+[(2, 1, 1), False, True, True, False, (2, 1), (2, 1, 0)]
+>>> [list(each_filling((2, 1), (1, 1, 1))), count_fillings((3, 2, 1), (2, 2, 1, 1)), count_fillings((2, 1), (0, 3)), count_fillings((), ())]
+[[((0, 1), (2,)), ((0, 2), (1,))], 4, 0, 1]
+"""
+
+STAGE_21 = """
+>>> press = Press(2, 3)
+>>> [press.put(0, 1), press.put(0, 2), press.left, press.right, press.put(1, 0), press.left, press.right, str(press)]
+[(0, 0), (0, 1), ((1,), (2,)), ((0, 0),), (1, 0), ((0, 1), (2,)), ((0, 0), (1,)), 'press of 2 lines, 3 columns, 3 pairs']
+>>> [fillings_of(Table(1, (0, 1, 0), (1, 0, 1))), table_of(2, 2, ((0, 1), (1,)), ((0, 1), (1,))) == Table(1, (0, 1), (1, 1)), press.back(many=2), press.pairs]
+[(((0, 1), (2,)), ((0, 1), (1,))), True, ((0, 2), (1, 0)), ((0, 1),)]
+"""
+
+STAGE_22 = """
+>>> [count_things(("table", 1, (1, 1), (1, 1))), count_things(("table", 2, (2, 2), (2, 2))), count_things(("web", (2, 2, 2, 2))), count_things(("tournament", (2, 2, 1, 1))), count_things(("web", (1, 1, 1)))]
+[2, 3, 3, 4, 0]
+>>> [shape_counts(("table", 1, (2, 1), (1, 1, 1))), shape_counts(("web", (2, 2, 2, 2))), shape_counts(("tournament", (1, 1, 1))), [table.lines for table in each_thing(("table", 2, (1, 2), (2, 1)))]]
+[{(2, 1): 2, (3,): 1}, {(3, 2, 2, 1): 3}, {(2, 1): 2}, [((0, 1), (2, 0)), ((1, 0), (1, 1))]]
+"""
+
+STAGE_23 = """
+>>> [web_of_table(Table(1, (0, 1, 0), (1, 0, 0), (0, 0, 0))) == Web(3, (0, 1)), tournament_of_table(Table(1, (0, 1), (0, 0))) == Tournament((1,), ()), web_of_sides(Table(1, (1, 0), (1, 1))) == Web(4, (0, 2), (1, 2), (1, 3)), web_of_sides(Table(1, (1, 0), (1, 1)), tied=True).degrees]
+[True, True, True, (2, 3, 2, 1)]
+>>> [table_of_sides(Web(4, (0, 1), (0, 2), (1, 2), (1, 3)), 2, tied=True).lines, opposite_sums(("table", 2, (3, 1), (2, 2))), opposite_sums(("web", (1, 1, 0)))]
+[((1, 0), (1, 1)), ('table', 2, (1, 3), (2, 2)), ('web', (1, 1, 2))]
+"""
+
+STAGE_24 = """
+>>> STEP = even_step(Table(1, (0, 1, 1), (1, 0, 0)), 0, 1)
+>>> [STEP == Table(1, (0, 1, 0), (1, 0, 1)), back_step(STEP, 0, 1) == Table(1, (0, 1, 1), (1, 0, 0)), fillings_of(STEP)[0], steps_between(STEP, 0, 1), even_step(Web(3, (0, 1), (0, 2)), 0, 1) == Web(3, (0, 1), (1, 2)), even_step(Tournament((1, 2), (2,), ()), 0, 2) == Tournament((2,), (0,), (1,))]
+[True, True, ((0, 1), (2,)), (0, 1), True, True]
+>>> [even_step(Table(2, (2, 1), (0, 0)), 0, 1) == Table(2, (2, 0), (0, 1)), even_step(Table(1, (1, 0), (1, 0)), 0, 1, columns=True) == Table(1, (0, 1), (1, 0))]
+[True, True]
+"""
+
+STAGE_25 = """
+>>> [write(("tournament", (2, 1, 0))), write(("table", 1, (2, 1), (2, 1))).split("\\n"), write(RING).split("\\n"), read("tournament\\n1 2\\n2\\n-").scores]
+['sums tournament 2 1 0', ['sums table 1', '2 1', '2 1'], ['tournament', '1', '2', '0'], (2, 1, 0)]
+>>> [read("web 3\\n0 1").ties, read("table 2\\n0 2\\n1 1").lines, read("sums web 1 1")]
+[((0, 1),), ((0, 2), (1, 1)), ('web', (1, 1))]
+"""
+
+STAGE_26 = """
+>>> bench = Bench(RING)
+>>> bench.promise("even", "under", (2, 1, 0))
+>>> [bench.promises, bench.turn((0, 1)), bench.thing.scores, bench.deeds, bench.undo(), bench.row, str(bench)]
+[{'even': ('under', (2, 1, 0))}, None, (0, 2, 1), ('promise', 'turn'), 1, (1, 1, 1), 'bench with tournament of 3 players, 1 promises']
+"""
+
+STAGE_27 = """
+>>> shell = Shell()
+>>> [shell("new a\\nweb 4\\n0 1\\n1 2\\n2 3"), shell("sums a"), shell("turn a 0 3").split("\\n")[2], shell("alone a"), shell("state a 0 1"), shell("copy a b"), shell("under a b"), shell.names]
+['web of 4 places, 3 ties', 'sums web 1 2 2 1', '0 3', False, 'free', None, True, ('a', 'b')]
+"""
+
+STAGES = [IMPORTS, STAGE_2, STAGE_3, STAGE_4, STAGE_5, STAGE_6, STAGE_7, STAGE_8, STAGE_9, STAGE_10, STAGE_11,
+          STAGE_12, STAGE_13, STAGE_14, STAGE_15, STAGE_16, STAGE_17, STAGE_18, STAGE_19, STAGE_20, STAGE_21,
+          STAGE_22, STAGE_23, STAGE_24, STAGE_25, STAGE_26, STAGE_27]

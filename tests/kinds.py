@@ -5,7 +5,10 @@ from itertools import product
 
 from sumsalone.base.things import Table, Tournament, Web
 from sumsalone.errors import InvalidNumber, InvalidSums
+from sumsalone.fill.insertion import Press
+from sumsalone.house.bench import Bench
 from sumsalone.rows.rows import Order
+from sumsalone.text.shell import Shell
 
 FORTY = 10 ** 40 - 1
 THIRTY = 10 ** 30 - 1
@@ -30,7 +33,8 @@ DEEP = [nested(20, 0, lambda x: (x,)), nested(20, 0, lambda x: [x]), nested(20, 
         nested(10, 0, lambda x: ([x],))]
 OBJECTS = [Table(1, (0, 1)), Table(2, (2,)), Web(1), Web(2, (0, 1)), Web(3), Tournament(()), Tournament((1,), ()),
            Order(2, 2), InvalidSums("no"), InvalidNumber(3), ("made", Table(1, (1,))), (Web(2), ()), [Web(1)],
-           {0: Order(1, 0)}]
+           {0: Order(1, 0)}, Press(6, 5), Bench(Web(2)), Bench(Tournament(())).trial(), Shell(), (Press(5, 6), Shell()),
+           [Bench(Table(3, (3,)))]]
 EVERY = [None] + INTEGERS + BOOLEANS + STRINGS + TUPLES + LISTS + DICTS + DEEP + OBJECTS
 
 NO_INTEGERS = [value for value in EVERY if type(value) is not int]

@@ -28,6 +28,24 @@ MODULES = {
     "sumsalone.sure.forced": "is_possible with_more with_less state_of states forced_paper is_forced_paper parts_of "
                              "is_alone",
     "sumsalone.both.parted": "is_level rest_of has_part parted_paper is_parted_paper",
+    "sumsalone.both.apart": "lessened most_apart apart_paper is_apart_paper first_cover",
+    "sumsalone.both.joined": "is_joined is_firm can_join joined_paper is_joined_paper can_be_firm firm_paper "
+                             "is_firm_paper",
+    "sumsalone.fill.fillings": "is_shape turned_shape is_filling shape_of entry_counts count_fillings each_filling",
+    "sumsalone.fill.insertion": "Press fillings_of table_of",
+    "sumsalone.count.counts": "count_things each_thing shape_counts",
+    "sumsalone.across.bridges": "web_of_table tournament_of_table web_of_sides table_of_sides opposite_sums",
+    "sumsalone.across.even": "even_step back_step steps_between",
+    "sumsalone.text.texts": "write read",
+    "sumsalone.house.bench": "Bench",
+    "sumsalone.text.shell": "Shell",
+}
+CONSTANTS = {
+    "sumsalone.base.things": {"MAX_CAP": 9, "MAX_LINES": 12, "MAX_PLACES": 16},
+    "sumsalone.rows.rows": {"MAX_LENGTH": 64, "MAX_TOTAL": 20},
+    "sumsalone.wins.scores": {"MAX_PLAYERS": 16, "MAX_ROW": 64},
+    "sumsalone.fill.fillings": {"MAX_CELLS": 42, "MAX_ENTRIES": 8},
+    "sumsalone.text.shell": {"MAX_THINGS": 8},
 }
 METHODS = {
     ("sumsalone.base.things", "Table"): "of cap lines line_sums column_sums units sums cell with_cell flipped opposite "
@@ -38,6 +56,11 @@ METHODS = {
                                              "__init__ __len__ __eq__ __str__",
     ("sumsalone.rows.rows", "Order"): "length total greatest least meet join covered rows "
                                       "__init__ __contains__ __eq__ __str__",
+    ("sumsalone.fill.insertion", "Press"): "of lines columns left right pairs put back __init__ __len__ __eq__ __str__",
+    ("sumsalone.house.bench", "Bench"): "thing sums row promises deeds promise forget put turn carry undo redo trial "
+                                        "during twin __init__ __getitem__ __contains__ __len__ __eq__ __str__",
+    ("sumsalone.text.shell", "Shell"): "run names things script replayed "
+                                       "__init__ __call__ __contains__ __len__ __eq__ __str__",
 }
 PARAMETERS = {
     "sumsalone.base.words.is_name": "(value)",
@@ -146,9 +169,63 @@ PARAMETERS = {
     "sumsalone.both.parted.has_part": "(sums, share)",
     "sumsalone.both.parted.parted_paper": "(sums, share)",
     "sumsalone.both.parted.is_parted_paper": "(sums, share, value)",
+    "sumsalone.both.apart.lessened": "(sums, many)",
+    "sumsalone.both.apart.most_apart": "(sums)",
+    "sumsalone.both.apart.apart_paper": "(sums)",
+    "sumsalone.both.apart.is_apart_paper": "(sums, value)",
+    "sumsalone.both.apart.first_cover": "(sums)",
+    "sumsalone.both.joined.is_joined": "(thing)",
+    "sumsalone.both.joined.is_firm": "(thing)",
+    "sumsalone.both.joined.can_join": "(sums)",
+    "sumsalone.both.joined.joined_paper": "(sums)",
+    "sumsalone.both.joined.is_joined_paper": "(sums, value)",
+    "sumsalone.both.joined.can_be_firm": "(sums)",
+    "sumsalone.both.joined.firm_paper": "(sums)",
+    "sumsalone.both.joined.is_firm_paper": "(sums, value)",
+    "sumsalone.fill.fillings.is_shape": "(value)",
+    "sumsalone.fill.fillings.turned_shape": "(shape)",
+    "sumsalone.fill.fillings.is_filling": "(value)",
+    "sumsalone.fill.fillings.shape_of": "(filling)",
+    "sumsalone.fill.fillings.entry_counts": "(filling, many)",
+    "sumsalone.fill.fillings.count_fillings": "(shape, sums)",
+    "sumsalone.fill.fillings.each_filling": "(shape, sums)",
+    "sumsalone.fill.insertion.Press": "(lines, columns)",
+    "sumsalone.fill.insertion.fillings_of": "(table)",
+    "sumsalone.fill.insertion.table_of": "(lines, columns, left, right)",
+    "sumsalone.count.counts.count_things": "(sums)",
+    "sumsalone.count.counts.each_thing": "(sums)",
+    "sumsalone.count.counts.shape_counts": "(sums)",
+    "sumsalone.across.bridges.web_of_table": "(table)",
+    "sumsalone.across.bridges.tournament_of_table": "(table)",
+    "sumsalone.across.bridges.web_of_sides": "(table, *, tied=False)",
+    "sumsalone.across.bridges.table_of_sides": "(web, lines, *, tied=False)",
+    "sumsalone.across.bridges.opposite_sums": "(sums)",
+    "sumsalone.across.even.even_step": "(thing, first, second, *, columns=False)",
+    "sumsalone.across.even.back_step": "(thing, first, second, *, columns=False)",
+    "sumsalone.across.even.steps_between": "(thing, first, second, *, columns=False)",
+    "sumsalone.text.texts.write": "(thing)",
+    "sumsalone.text.texts.read": "(text)",
+    "sumsalone.house.bench.Bench": "(thing)",
+    "sumsalone.text.shell.Shell": "()",
     "sumsalone.base.things.Table": "(cap, *lines)",
     "sumsalone.base.things.Web": "(places, *ties)",
     "sumsalone.base.things.Tournament": "(*beaten)",
+}
+METHOD_PARAMETERS = {
+    ("sumsalone.fill.insertion", "Press"): {"of": "(table)", "put": "(self, line, column)", "back": "(self, *, many=1)"},
+    ("sumsalone.house.bench", "Bench"): {"promise": "(self, name, *terms)", "forget": "(self, name)", "put": "(self, thing)",
+                                         "turn": "(self, place)", "carry": "(self, one, other)", "undo": "(self, *, many=1)",
+                                         "redo": "(self, *, many=1)", "trial": "(self)", "during": "(self, call)",
+                                         "twin": "(self)"},
+    ("sumsalone.text.shell", "Shell"): {"run": "(self, command)", "replayed": "(script)"},
+    ("sumsalone.base.things", "Table"): {"of": "(cap, lines)", "cell": "(self, line, column)", "flipped": "(self)",
+                                         "with_cell": "(self, line, column, number)", "opposite": "(self)"},
+    ("sumsalone.base.things", "Web"): {"of": "(places, ties)", "beside": "(self, place)", "are_tied": "(self, one, other)",
+                                       "with_change": "(self, one, other)", "opposite": "(self)"},
+    ("sumsalone.base.things", "Tournament"): {"of": "(beaten)", "beats": "(self, one, other)", "opposite": "(self)",
+                                              "with_change": "(self, one, other)"},
+    ("sumsalone.rows.rows", "Order"): {"meet": "(self, *rows)", "join": "(self, *rows)", "covered": "(self, row)",
+                                       "rows": "(self)"},
 }
 
 
@@ -163,6 +240,17 @@ class Interface(unittest.TestCase):
             body = vars(getattr(importlib.import_module(module), name))
             for method in methods.split():
                 self.assertIn(method, body, name)
+
+    def test_constants(self):
+        for module, constants in CONSTANTS.items():
+            for name, value in constants.items():
+                self.assertEqual(getattr(importlib.import_module(module), name), value)
+
+    def test_parameters_of_methods(self):
+        for (module, name), methods in METHOD_PARAMETERS.items():
+            for method, told in methods.items():
+                found = getattr(getattr(importlib.import_module(module), name), method)
+                self.assertEqual(str(inspect.signature(found)), told)
 
     def test_parameters(self):
         for path, told in PARAMETERS.items():

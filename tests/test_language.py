@@ -17,7 +17,7 @@ CALLED = {"len", "range", "enumerate", "zip", "min", "max", "sum", "abs", "sorte
 METHODS = set("""append clear copy count endswith extend find get index insert isalnum isalpha isdigit islower isspace
     isupper items join keys ljust lower lstrip partition pop remove replace reverse rfind rjust rpartition rsplit rstrip
     setdefault split splitlines startswith strip update upper values zfill bit_length add discard""".split())
-SPECIAL = {"__init__", "__eq__", "__repr__", "__str__", "__len__", "__contains__", "__getitem__", "__call__",
+SPECIAL = {"__init__", "__eq__", "__repr__", "__str__", "__len__", "__contains__", "__getitem__", "__iter__", "__call__",
            "__enter__", "__exit__"}
 NEVER = {"register", "mro", "elements", "open", "input", "law", "version_info", "with_traceback", "add_note"}
 WORDS = {"type", "typing", "typing_extensions", "enum", "Enum", "IntEnum", "StrEnum", "Flag", "IntFlag", "Generic",

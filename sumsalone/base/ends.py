@@ -4,6 +4,7 @@ The ends of a table are its lines and then, counted on, its columns; those of a 
 tournament its players. The number of a pair (i, j), i < j, is that of the cell, or 1 for a tie, or 1 if i has beaten j.
 """
 
+from sumsalone.base.checks import is_whole
 from sumsalone.base.things import Table, Tournament, Web, ordered
 
 
@@ -27,6 +28,28 @@ def pairs_of(sums):
     if sums[0] == "table":
         return [(line, column) for line in range(len(sums[2])) for column in range(len(sums[2]), count_ends(sums))]
     return [(i, j) for i in range(len(sums[1])) for j in range(i + 1, len(sums[1]))]
+
+
+def places_of(sums):
+    """All places of the sums, ascending; those of a table tell columns by their own indices."""
+    return [(one, other - _first_column(sums)) for one, other in pairs_of(sums)]
+
+
+def is_place(sums, value):
+    """Whether the value is a place of the sums."""
+    if not isinstance(value, tuple) or not all([is_whole(index) for index in value]):
+        return False
+    return value in places_of(sums)
+
+
+def _first_column(sums):
+    """The end that is the first column; 0 for what has none."""
+    return len(sums[2]) if sums[0] == "table" else 0
+
+
+def number_at(thing, place):
+    """The number of a place of the thing."""
+    return numbers_of(thing)[(place[0], place[1] + _first_column(thing.sums))]
 
 
 def numbers_of(thing):
@@ -57,6 +80,21 @@ def beats(numbers, one, other):
     if one < other:
         return numbers[(one, other)] == 1
     return one > other and numbers[(other, one)] == 0
+
+
+def has_room(numbers, one, other, most):
+    """Whether these two ends are a pair between which one more unit can be."""
+    return numbers.get(ordered(one, other), most) < most
+
+
+def joined_ends(many, pairs):
+    """The ends, so many, in ascending tuples of those that hang together by these pairs."""
+    part_of = list(range(many))
+    for one, other in pairs:
+        old, new = part_of[one], part_of[other]
+        if old != new:
+            part_of = [new if part == old else part for part in part_of]
+    return [tuple([end for end in range(many) if part_of[end] == part]) for part in sorted(set(part_of))]
 
 
 def gap(here, there):

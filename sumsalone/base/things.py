@@ -252,6 +252,11 @@ def is_sums(value):
     return value[0] in ("web", "tournament") and len(value) == 2 and _is_short_row(value[1], MAX_PLACES)
 
 
+def rows_of(sums):
+    """The rows of sums: those of lines and of columns, or that of degrees or scores."""
+    return sums[2:] if sums[0] == "table" else sums[1:]
+
+
 def is_thing(sums, value):
     """Whether the value is a thing with these sums."""
     if not is_sums(sums):

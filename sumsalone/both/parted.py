@@ -2,7 +2,8 @@
 
 from sumsalone.base.ends import followed, numbers_of, thing_of
 from sumsalone.base.things import is_sums, is_thing, ordered
-from sumsalone.errors import InvalidOperation, InvalidSums
+from sumsalone.both.sums import check_both_sums
+from sumsalone.errors import InvalidOperation
 from sumsalone.rows.rows import is_row
 from sumsalone.sure.forced import is_possible
 from sumsalone.sure.papers import is_bar_of, paper_of
@@ -57,16 +58,10 @@ def is_parted_paper(sums, share, value):
     return value[1] == "range" if rest is None else is_bar_of(rest, value[1])
 
 
-def _check_sums(value):
-    """Raise the error for what are no sums of a table or a web."""
-    if not is_sums(value) or value[0] == "tournament":
-        raise InvalidSums("no sums of a table or a web")
-
-
 def _check_share(sums, share):
     """Raise the errors for what are no such sums, and for a share that is not like them, or not level."""
-    _check_sums(sums)
-    _check_sums(share)
+    check_both_sums(sums)
+    check_both_sums(share)
     if _measures(sums) != _measures(share):
         raise InvalidOperation("the sums and the share are not of one kind and size")
     if len(_level_ends(share)) == 0:

@@ -17,6 +17,16 @@ def row_of(thing):
     return sums[2] if sums[0] == "table" else sums[1]
 
 
+def moved_by(thing, i, j, chance):
+    """The thing behind the move from i to j that this chance tells."""
+    if isinstance(thing, Table):
+        less = thing.with_cell(i, chance, thing.cell(i, chance) - 1)
+        return less.with_cell(j, chance, thing.cell(j, chance) + 1)
+    if chance == j:
+        return thing.with_change(i, j)
+    return thing.with_change(i, chance).with_change(chance, j)
+
+
 def count_moves(thing, i, j):
     """The number of moves from i to j."""
     _check_indices(thing, i, j)
@@ -29,7 +39,7 @@ def moved(thing, i, j):
     chances = _chances(thing, i, j)
     if len(chances) == 0:
         raise InvalidOperation("there is no move between these two")
-    return _moved_by(thing, i, j, chances[0])
+    return moved_by(thing, i, j, chances[0])
 
 
 def is_move(thing, i, j, value):
@@ -113,16 +123,6 @@ def _chances(thing, i, j):
         taken = thing.beside(j)
         return [place for place in thing.beside(i) if place != j and place not in taken]
     return [player for player in thing.beaten[i] if player == j or j in thing.beaten[player]]
-
-
-def _moved_by(thing, i, j, chance):
-    """The thing behind the move from i to j that this chance tells."""
-    if isinstance(thing, Table):
-        less = thing.with_cell(i, chance, thing.cell(i, chance) - 1)
-        return less.with_cell(j, chance, thing.cell(j, chance) + 1)
-    if chance == j:
-        return thing.with_change(i, j)
-    return thing.with_change(i, chance).with_change(chance, j)
 
 
 def _sums_behind(thing, i, j):

@@ -1,8 +1,8 @@
 """Exchanges, by which things with equal sums are joined, and the closed ways along which they differ."""
 
 from sumsalone.base.checks import is_within
-from sumsalone.base.ends import beats, changes_along, count_ends, followed, gap, is_round, most_between, numbers_of
-from sumsalone.base.ends import thing_of
+from sumsalone.base.ends import beats, changes_along, count_ends, followed, gap, has_room, is_round, most_between
+from sumsalone.base.ends import numbers_of, thing_of
 from sumsalone.base.things import is_any_thing, ordered, sums_of
 from sumsalone.errors import InvalidOperation
 
@@ -135,13 +135,8 @@ def _swaps(numbers, most):
     for at, (a, b) in enumerate(full):
         for c, d in full[at + 1:]:
             ways.extend([way for way in ((a, b, c, d), (a, b, d, c)) if len(set(way)) == 4
-                         and _has_room(numbers, way[1], way[2], most) and _has_room(numbers, way[3], a, most)])
+                         and has_room(numbers, way[1], way[2], most) and has_room(numbers, way[3], a, most)])
     return ways
-
-
-def _has_room(numbers, one, other, most):
-    """Whether these two ends are a pair between which one more unit can be."""
-    return numbers.get(ordered(one, other), most) < most
 
 
 def _differences(here, there):
@@ -165,7 +160,7 @@ def _nearer_swap(here, there, most):
         for b in more[a]:
             for c in fewer[b]:
                 for d in more[c]:
-                    if a != d and _has_room(here, d, a, most):
+                    if a != d and has_room(here, d, a, most):
                         return ("first", (a, b, c, d))
                     if a != d and there[ordered(d, a)] > 0:
                         return ("second", (b, c, d, a))

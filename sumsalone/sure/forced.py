@@ -1,7 +1,7 @@
 """Forced places: those that are full in all things with some sums, or empty in all."""
 
-from sumsalone.base.checks import is_whole, is_within
-from sumsalone.base.ends import count_ends, numbers_of, pairs_of
+from sumsalone.base.checks import is_within
+from sumsalone.base.ends import count_ends, is_place, joined_ends, number_at, pairs_of, places_of
 from sumsalone.base.things import Table, Web, is_sums, is_thing, ordered
 from sumsalone.errors import InvalidOperation, InvalidSums
 from sumsalone.rows.rows import places_by_entry
@@ -41,7 +41,7 @@ def state_of(sums, place):
 def states(sums):
     """The dict from all places to their states."""
     _check_possible(sums)
-    return {place: _state(sums, place) for place in _places(sums)}
+    return {place: _state(sums, place) for place in places_of(sums)}
 
 
 def forced_paper(sums, place):
@@ -69,8 +69,8 @@ def is_forced_paper(sums, place, value):
 def parts_of(sums):
     """The ascending tuple of the parts of the sums, which hang together by free places."""
     told = states(sums)
-    free = [pair for pair, place in zip(pairs_of(sums), _places(sums)) if told[place] == "free"]
-    parts = _joined(count_ends(sums), free)
+    free = [pair for pair, place in zip(pairs_of(sums), places_of(sums)) if told[place] == "free"]
+    parts = joined_ends(count_ends(sums), free)
     if sums[0] == "table":
         many = len(sums[2])
         parts = [(tuple([end for end in part if end < many]), tuple([end - many for end in part if end >= many]))
@@ -92,7 +92,7 @@ def _check_sums(sums):
 def _check_place(sums, place):
     """Raise the errors for what are no such sums, and for what is no place of them."""
     _check_sums(sums)
-    if not isinstance(place, tuple) or not all([is_whole(index) for index in place]) or place not in _places(sums):
+    if not is_place(sums, place):
         raise InvalidOperation("no place of these sums")
 
 
@@ -107,12 +107,6 @@ def _check_possible_place(sums, place):
     """Raise the errors for what are no such sums, or no place of them, and for sums that no thing has."""
     _check_place(sums, place)
     _check_possible(sums)
-
-
-def _places(sums):
-    """All places of the sums, ascending."""
-    first = len(sums[2]) if sums[0] == "table" else 0
-    return [(one, other - first) for one, other in pairs_of(sums)]
 
 
 def _shifted(sums, place, change):
@@ -146,7 +140,7 @@ def _state(sums, place):
 
 def _has_number(sums, place, number, value):
     """Whether the value is a thing with the sums in which the place is full (1), or empty (0)."""
-    return is_thing(sums, value) and list(numbers_of(value).values())[_places(sums).index(place)] == number
+    return is_thing(sums, value) and number_at(value, place) == number
 
 
 def _thing_with(sums, place, number):
@@ -193,12 +187,3 @@ def _tournament_with(scores, place, number):
     wins = [(others[winner], others[loser]) for winner, losers in enumerate(left.beaten) for loser in losers]
     wins.extend([(one, player) if player in chosen else (player, one) for player in others])
     return tournament_of_wins(len(scores), wins)
-
-
-def _joined(many, pairs):
-    """The ends, so many, in ascending tuples of those that hang together by these pairs."""
-    part_of = list(range(many))
-    for one, other in pairs:
-        old, new = part_of[one], part_of[other]
-        part_of = [new if part == old else part for part in part_of]
-    return [tuple([end for end in range(many) if part_of[end] == part]) for part in sorted(set(part_of))]

@@ -1,0 +1,1 @@
+"""How many things have some sums, and which."""

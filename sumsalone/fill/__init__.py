@@ -1,0 +1,1 @@
+"""Fillings of shapes, and tables as pairs of them."""

@@ -1,0 +1,1 @@
+"""Things that change."""

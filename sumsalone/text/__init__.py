@@ -1,0 +1,1 @@
+"""Things and sums as texts, and a shell for them."""
