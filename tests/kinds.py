@@ -60,6 +60,17 @@ NO_SUMS = NO_TUPLES + NO_TABLE_SUMS + [
     ("tournament", (0,), 1), ("tie", (1, 1)), ("", (1, 1)), ("webs", (1, 1)), (["web"], (1, 1)), ({}, (1, 1)),
     (Web(2), (1, 1)), ("web", Web(2)), (0, (1, 1))]
 
+# Values that are nearly of some form: papers, places, words, fillings, commands and texts.
+NO_FORMS = [
+    ("made", Web(4, (0, 1), (1, 2), (2, 3))), ("made", Web(1), Web(1)), ("bar", ()), ("bar", (0, 0)), ("odd", True),
+    ("odd", 3), ("low", 0), ("low", ("line", 0)), ("few", 0), ("whole", ("bar", (0,))), ("rest", "range"), ("range",),
+    ("full", "range"), ("empty", ("odd", 1)), ("free", Web(1), Web(2)), ("first", Web(4)), ("second", Web(4)),
+    (Web(4), (), "range"), (Web(4), ((0, 1),), ("bar", ())), ((0, 1), (2, 3)), ((0, 1, 1),), ((0, 1, 1), (1, 0, 1)),
+    ((0, 1, 2, 3),), ((0, 1, 3, 2), (0,)), (Web(4), Web(4)), (Web(4), None), ((0, 0), (1,)), ((1, 0), (1,)), ((0,), (0,)),
+    ((7,),), ((8,),), (0, 1, 0), (1, 0), (0, 2), ("entry", 0, 0, 1), ("under", (1, 1)), "new a\nweb 1", "new z\nx", "web 1",
+    "sums web 1 1", "table 1\n0 1", "tournament\n-", "drop z", "text b", (Table(1, (1, 0)), (0,)), (Table(1, (0,)), ()),
+    [("made", Web(1))], {"made": Web(1)}, ("made", [Web(1)]), ((Web(1),),), 42, 43, 7, 8, 9, 16, 17, 20, 21, 6]
+
 
 class Case(unittest.TestCase):
     def fails(self, error, call, *arguments, keeps=None, **named):

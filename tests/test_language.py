@@ -209,6 +209,59 @@ class Code(unittest.TestCase):
             self.assertEqual(names.count(node.name), 1, (path, node.name))
             self.assertNotIn(node.name, METHODS, path)
 
+    def test_generators_are_not_called(self):
+        """None of them is needed within the package; so nothing has to be said about how they are iterated."""
+        names = {node.name for _, node in nodes(ast.FunctionDef) if any(isinstance(x, ast.Yield) for x in ast.walk(node))}
+        for path, node in nodes(ast.Call):
+            called = getattr(node.func, "id", None) or getattr(node.func, "attr", None)
+            self.assertNotIn(called, names, (path, node.lineno))
+
+    def test_what_is_done_behind_blocks(self):
+        """In `finally` and `__exit__` names and attributes are assigned names and attributes, and nothing else is done."""
+        bodies = [(path, node.finalbody) for path, node in nodes(ast.Try)]
+        bodies += [(path, node.body) for path, node in nodes(ast.FunctionDef) if node.name == "__exit__"]
+        self.assertEqual(len(bodies), 2)
+        for path, body in bodies:
+            for statement in body:
+                self.assertIsInstance(statement, ast.Assign, path)
+                for part in ast.walk(statement):
+                    self.assertIsInstance(part, (ast.Assign, ast.Name, ast.Attribute, ast.Load, ast.Store), path)
+        for path, node in nodes((ast.ExceptHandler, ast.With, ast.Match, ast.Nonlocal)):
+            self.fail((path, node.lineno))
+
+    def test_names_of_methods_and_properties(self):
+        found = [node for _, tree in nodes(ast.ClassDef) for node in tree.body if isinstance(node, ast.FunctionDef)]
+        properties = {node.name for node in found if "property" in [part.id for part in node.decorator_list]}
+        methods = {node.name for node in found if "property" not in [part.id for part in node.decorator_list]}
+        self.assertFalse(properties & methods)
+        of_values = {name for kind in (str, int, list, dict, set, bytes, tuple) for name in dir(kind)}
+        for name in methods | properties:
+            self.assertTrue(name.startswith("__") or name not in of_values or name == "join", name)
+
+    def test_attributes_are_no_names_of_values(self):
+        of_values = {name for kind in (str, int, list, dict, set, bytes, tuple) for name in dir(kind)}
+        for path, node in nodes(ast.Attribute):
+            if isinstance(node.ctx, ast.Store):
+                self.assertNotIn(node.attr, of_values, (path, node.lineno))
+
+    def test_values_at_module_level(self):
+        plain = (ast.Constant, ast.Tuple, ast.Dict, ast.Load, ast.Store, ast.Assign, ast.Name)
+        for path, tree in TREES.items():
+            functions = []
+            for node in tree.body:
+                if isinstance(node, ast.FunctionDef):
+                    functions.append(node.name)
+                if isinstance(node, ast.Assign):
+                    for part in ast.walk(node):
+                        self.assertIsInstance(part, plain, (path, node.lineno))
+                        if isinstance(part, ast.Name) and isinstance(part.ctx, ast.Load):
+                            self.assertIn(part.id, functions, (path, node.lineno))
+
+    def test_words_that_do_not_stand_in_a_package_with_items(self):
+        for path in FILES:
+            for word in ("(type)", "Meta", "metaclass="):
+                self.assertNotIn(word, path.read_text(), path)
+
     def test_recursion_and_nesting(self):
         for path, node in nodes(ast.FunctionDef):
             inside = [part for part in ast.walk(node) if part is not node]
