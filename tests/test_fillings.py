@@ -4,7 +4,7 @@ from itertools import islice, permutations, product
 from random import Random
 
 from sumsalone.errors import InvalidFilling, InvalidNumber, InvalidOperation, InvalidSums
-from sumsalone.fill.fillings import (MAX_CELLS, MAX_ENTRIES, count_fillings, each_filling, entry_counts, is_filling,
+from sumsalone.fill.fillings import (MAX_CELLS, MAX_ENTRIES, _can_be_filled, count_fillings, each_filling, entry_counts, is_filling,
                                      is_shape, shape_of, turned_shape)
 from sumsalone.fill.shares import shares
 from tests.kinds import EVERY, FORTY, NO_INTEGERS, NO_TUPLES, Case
@@ -223,6 +223,25 @@ class Counts(Case):
             self.assertEqual(found, sorted(set(found)))
             self.assertEqual(len(found), count_fillings(shape, sums))
             self.assertTrue(all(is_filled(filling) and entry_counts(filling, len(sums)) == sums for filling in found))
+
+    def test_no_beginning_in_vain(self):
+        """What is told to be the beginning of a filling is that of one: so the next filling is always found at once."""
+        for shape in [shape for total in range(1, 8) for shape in all_shapes(total)]:
+            many = 4 if sum(shape) < 6 else 3
+            found = fillings_told(shape, many)
+            for sums in all_counts(sum(shape), many):
+                words = {tuple(entry for row in filling for entry in row) for filling in found.get(sums, [])}
+                begun = {word[:length] for word in words for length in range(len(word) + 1)}
+                for length in range(sum(shape) + 1):
+                    for word in product(range(many), repeat=length):
+                        rows = rows_of(shape, word)
+                        if is_filled(rows) and all(word.count(entry) <= sums[entry] for entry in range(many)):
+                            self.assertIs(_can_be_filled(shape, sums, word), word in begun)
+
+    def test_other_totals_of_great_shapes(self):
+        for shape, sums in (((6,) * 7, (5,) * 8), ((6,) * 7, (6,) * 8), ((12, 10, 8, 6, 4, 2), (5,) * 8),
+                            ((14, 14, 14), (42,) * 8), ((21, 21), (0,) * 7 + (42,))):
+            self.assertEqual((list(each_filling(shape, sums)), count_fillings(shape, sums)), ([], 0))
 
     def test_shapes_of_one_row_or_column(self):
         self.assertEqual(list(each_filling((3,), (1, 0, 2))), [((0, 2, 2),)])

@@ -141,6 +141,10 @@ class Presses(Case):
         for many in (3, 4, FORTY):
             self.unchanged(press, NothingToUndo, press.back, many=many, keeps=("many", many))
         self.assertEqual((press.back(many=0), len(press)), ((), 2))
+        single = Press(2, 2)
+        single.put(0, 1)
+        for pair in ((0, 1), (0, 0)):
+            self.unchanged(single, InvalidOperation, single.put, *pair)
         self.fails(NothingToUndo, Press(1, 1).back, keeps=("many", 1))
         self.assertEqual(press.put(1, 1), (0, 1))
 

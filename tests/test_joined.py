@@ -3,8 +3,9 @@
 from itertools import product
 from random import Random
 
+from sumsalone.base.ends import count_ends, most_between, numbers_of, thing_of
 from sumsalone.base.things import Table, Web
-from sumsalone.both.joined import (can_be_firm, can_join, firm_paper, is_firm, is_firm_paper, is_joined,
+from sumsalone.both.joined import (_firm, _joined, can_be_firm, can_join, firm_paper, is_firm, is_firm_paper, is_joined,
                                    is_joined_paper, joined_paper)
 from sumsalone.errors import InvalidOperation, InvalidSums
 from tests.kinds import EVERY, FORTY, THIRTY, Case
@@ -212,6 +213,50 @@ class Papers(Case):
         self.check(("web", (15,) + (1,) * 15), True)
         self.check(("web", (15, 15) + (2,) * 14), True)
         self.check(("web", (8,) * 2 + (1,) * 14), True)
+
+    def exchanged(self, thing):
+        """A joined and a firm thing with the same sums, by exchanges from this very thing on."""
+        sums = thing.sums
+        if not low_entries(sums, 1) and total_of(sums) >= needed_total(sums):
+            joined = thing_of(sums, _joined(numbers_of(thing), count_ends(sums), most_between(sums)))
+            self.assertEqual((joined.sums, joined_told(told_of(joined))), (sums, True))
+        if not low_entries(sums, 2):
+            firm = thing_of(sums, _firm(numbers_of(thing), count_ends(sums), most_between(sums)))
+            self.assertEqual((firm.sums, firm_told(told_of(firm))), (sums, True))
+
+    def test_exchanges_from_all_things_on(self):
+        for sizes in SIZES:
+            for told in all_things(*sizes):
+                self.exchanged(thing_told(told))
+        for ties in list(all_webs(6))[::5]:
+            self.exchanged(Web(6, *ties))
+
+    def test_exchanges_from_things_in_pieces(self):
+        """Blocks side by side, with single ties or units between some of them."""
+        random = Random(17)
+        for _ in range(120):
+            pieces = random.randint(2, 5)
+            blocks = [random.randint(3, 16 // pieces) for _ in range(pieces)]
+            starts = [sum(blocks[:at]) for at in range(pieces + 1)]
+            ties = {(start + i, start + j) for start, many in zip(starts, blocks) for j in range(many) for i in range(j)
+                    if j == i + 1 or j - i == many - 1 or random.random() < 0.3}
+            for at in range(1, pieces):
+                if random.random() < 0.7:
+                    ties.add((random.randrange(starts[at - 1], starts[at]), random.randrange(starts[at], starts[at + 1])))
+            order = random.sample(range(starts[-1]), starts[-1])
+            self.exchanged(Web(starts[-1], *[tuple(sorted((order[i], order[j]))) for i, j in ties]))
+            self.exchanged(self.table_in_pieces(random, random.randint(2, 6), random.choice((1, 1, 2, 9))))
+
+    def table_in_pieces(self, random, pieces, cap):
+        many = 2 * pieces
+        cells = [[0] * many for _ in range(many)]
+        for at in range(0, many, 2):
+            for i, j in product((at, at + 1), repeat=2):
+                cells[i][j] = random.randint(1, cap)
+            if at and random.random() < 0.7:
+                cells[random.randrange(at - 2, at)][random.randrange(at, at + 2)] = 1
+        order, other = random.sample(range(many), many), random.sample(range(many), many)
+        return Table.of(cap, tuple(tuple(cells[i][j] for j in other) for i in order))
 
     def test_webs_with_one_place(self):
         for sums, papers in ((("web", (0,)), [("made", Web(1))]), (("web", (1,)), [("bar", ("odd", 1)), ("bar", ("bar", (0,)))]),

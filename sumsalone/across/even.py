@@ -1,7 +1,7 @@
 """Even steps: each takes a unit from one sum, and gives it to another one, so that no two things fall together."""
 
 from sumsalone.base.checks import check_within
-from sumsalone.base.things import Table, Web, is_any_thing
+from sumsalone.base.things import Table, Web
 from sumsalone.errors import InvalidOperation
 from sumsalone.roads.carried import moved_by, row_of
 
@@ -32,9 +32,7 @@ def steps_between(thing, first, second, *, columns=False):
 
 
 def _check_step(thing, first, second, columns):
-    """Raise the errors for arguments between which there can be no step."""
-    if not is_any_thing(thing):
-        raise InvalidOperation("no table, web or tournament")
+    """Raise the errors for what is no thing, and for arguments between which there can be no step of it."""
     is_flat = columns is True and isinstance(thing, Table)
     most = len(thing.lines[0] if is_flat else row_of(thing)) - 1
     check_within(first, 0, most)

@@ -133,8 +133,6 @@ def _shapes(sums):
     if sums[0] == "web":
         return [_without_zeros(row) for row in nested_rows(len(sums[1]), sum(sums[1]))]
     _, _, lines, columns = sums
-    if sum(lines) != sum(columns):
-        return []
     found = [()]
     for _ in range(len(lines)):
         found = [(many,) + shape for shape in found for many in range(max(shape + (0,)), len(columns) + 1)]

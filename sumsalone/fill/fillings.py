@@ -49,9 +49,7 @@ def entry_counts(filling, many):
 def count_fillings(shape, sums):
     """The number of fillings of the shape with these sums."""
     _check_shape_and_sums(shape, sums)
-    if sum(shape) != sum(sums) or len(shape) > len(sums):
-        return 0
-    # The rows of the cells with lesser entries only: without the greatest entry there is one row less at most.
+    # The rows of the cells with lesser entries only: each entry, from the greatest one on, can leave one row less.
     counts = {shape + (0,) * (len(sums) - len(shape)): 1}
     for many in sums[::-1]:
         counts = _counts_without_greatest(counts, many)
@@ -61,9 +59,7 @@ def count_fillings(shape, sums):
 def each_filling(shape, sums):
     """Yield all fillings of the shape with these sums, in ascending order."""
     _check_shape_and_sums(shape, sums)
-    waiting = []
-    if sum(shape) == sum(sums) and _can_be_filled(shape, sums, ()):
-        waiting.append(())
+    waiting = [()] if sum(shape) == sum(sums) else []
     while len(waiting) > 0:
         entries = waiting.pop()
         if len(entries) == sum(shape):
